@@ -1,0 +1,1 @@
+"""Palmhall: bargains made by hand signs, and the cards that tell them."""

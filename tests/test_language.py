@@ -1,0 +1,131 @@
+"""The rules of LANGUAGE.md that can be read off the files without much ado; not all of them can."""
+
+import ast
+import builtins
+import os
+import re
+import unittest
+
+FOLDER = os.path.join(os.path.dirname(os.path.abspath(__file__)), os.pardir, "palmhall")
+
+BUILTINS = set(
+    "len range enumerate zip min max sum abs sorted reversed int str bool bytes list tuple dict set "
+    "frozenset isinstance ord repr any all divmod iter next super property staticmethod classmethod "
+    "Exception ValueError TypeError KeyError IndexError LookupError ZeroDivisionError ArithmeticError "
+    "OverflowError RuntimeError NotImplementedError AttributeError StopIteration NotImplemented".split()
+)
+BARRED_NAMES = set(
+    "register mro elements open input version_info with_traceback add_note format format_map".split()
+)
+BARRED_WORDS = re.compile(
+    r"\b(type|typing|typing_extensions|enum|Enum|IntEnum|StrEnum|Flag|IntFlag|Generic|Protocol|ABC|ABCMeta"
+    r"|namedtuple|NamedTuple|TypedDict|TYPE_CHECKING|abstractmethod)\b|dataclass|overload|contextmanager"
+)
+BARRED_NODES = (
+    ast.Global, ast.AsyncFunctionDef, ast.AsyncFor, ast.AsyncWith, ast.Await, ast.Div, ast.MatMult, ast.Import,
+)
+DOUBLE = re.compile(r"__[a-z]+__\Z")
+
+
+def package_files():
+    return sorted(name for name in os.listdir(FOLDER) if name != "__pycache__")
+
+
+def read(name):
+    with open(os.path.join(FOLDER, name), encoding="utf-8", newline="") as file:
+        return file.read()
+
+
+def names_in(tree):
+    """Every name that the file gives or uses, with its row."""
+    for node in ast.walk(tree):
+        for field in ("id", "name", "attr", "arg", "asname"):
+            name = getattr(node, field, None)
+            if isinstance(name, str):
+                yield name, node
+
+
+def bound_names(tree):
+    """Names that the file gives a meaning: what is assigned, loops' names, parameters, functions, classes."""
+    for node in ast.walk(tree):
+        if isinstance(node, ast.Name) and not isinstance(node.ctx, ast.Load):
+            yield node.id
+        elif isinstance(node, ast.arg):
+            yield node.arg
+    for node in tree.body:
+        if isinstance(node, (ast.FunctionDef, ast.ClassDef)):
+            yield node.name
+
+
+def package_trees():
+    return [(name, ast.parse(read(name))) for name in package_files()]
+
+
+class Language(unittest.TestCase):
+    def test_files(self):
+        self.assertIn("__init__.py", package_files())
+        for name in package_files():
+            self.assertRegex(name, r"\A(__init__|__main__|[a-z][a-z0-9_]*)\.py\Z")
+
+    def test_lines_and_characters(self):
+        for name in package_files():
+            with self.subTest(name):
+                text = read(name)
+                rows = text.split("\n")
+                self.assertLessEqual(len(rows), 401)
+                self.assertLessEqual(max(len(row) for row in rows), 120)
+                self.assertRegex(text, r"\A[ -~\n]*\Z")
+                self.assertIsNone(BARRED_WORDS.search(text))
+
+    def test_functions_are_short(self):
+        for name, tree in package_trees():
+            for node in ast.walk(tree):
+                if isinstance(node, ast.FunctionDef):
+                    self.assertLessEqual(node.end_lineno - node.lineno + 1, 40, f"{name}: {node.name}")
+
+    def test_imports(self):
+        for name, tree in package_trees():
+            for node in ast.walk(tree):
+                if isinstance(node, ast.ImportFrom):
+                    self.assertIn(node, tree.body)
+                    self.assertEqual(node.level, 0)
+                    self.assertRegex(node.module, r"\A(palmhall\.[a-z_]+|__future__)\Z")
+                    self.assertNotIn("*", [alias.name for alias in node.names])
+
+    def test_module_level(self):
+        for name, tree in package_trees():
+            for at, node in enumerate(tree.body):
+                if at == 0 and ast.get_docstring(tree) is not None:
+                    continue
+                self.assertIsInstance(node, (ast.ImportFrom, ast.FunctionDef, ast.ClassDef, ast.Assign))
+            given = [node.targets[0].id for node in tree.body if isinstance(node, ast.Assign)]
+            given += [node.name for node in tree.body if isinstance(node, (ast.FunctionDef, ast.ClassDef))]
+            self.assertEqual(len(set(given)), len(given))
+
+    def test_statements_and_values(self):
+        for name, tree in package_trees():
+            for node in ast.walk(tree):
+                self.assertNotIsInstance(node, BARRED_NODES, name)
+                if isinstance(node, ast.Constant):
+                    self.assertNotIsInstance(node.value, (float, complex))
+                    if isinstance(node.value, str):
+                        self.assertNotIn(chr(37), node.value)
+                if isinstance(node, ast.Compare):
+                    for op, right in zip(node.ops, node.comparators):
+                        if isinstance(op, (ast.Is, ast.IsNot)):
+                            self.assertIn(getattr(right, "value", 0), (None, True, False))
+
+    def test_names(self):
+        every = set(dir(builtins))
+        for name, tree in package_trees():
+            for word, node in names_in(tree):
+                self.assertNotIn(word, BARRED_NAMES, name)
+                if not DOUBLE.match(word):
+                    self.assertRegex(word, r"\A[A-Za-z][A-Za-z0-9_.]*\Z")
+                if isinstance(node, ast.Name) and word in every:
+                    self.assertIn(word, BUILTINS, name)
+            self.assertFalse(set(bound_names(tree)) & every, name)
+
+
+if __name__ == "__main__":
+    unittest.main()
