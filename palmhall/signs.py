@@ -1,5 +1,7 @@
 """Signs and showings: what they are, how many lots they tell, and which ones look alike."""
 
+from palmhall.kinds import is_whole, is_word
+
 PALMS = ("in", "out")
 PLACES = ("chin", "brow")
 
@@ -11,15 +13,6 @@ ALIKE_PARTS = {
     1: 6, 2: 7, 3: 8, 4: 9,
     6: 1, 7: 2, 8: 3, 9: 4,
 }
-
-
-def is_whole(thing, least, most):
-    """Whether it is a whole number within these bounds: True and False are none."""
-    return isinstance(thing, int) and not isinstance(thing, bool) and least <= thing <= most
-
-
-def is_word(thing, words):
-    return isinstance(thing, str) and thing in words
 
 
 def is_sign(thing):

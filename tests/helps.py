@@ -44,3 +44,69 @@ def grown_signs(chance, many):
             signs.append(chance.choice([sign for sign in SIGNS if sign not in signs]))
     chance.shuffle(signs)
     return signs
+
+
+def put_otherwise(thing, parts):
+    """Every thing that comes of this tuple by one change, each of these parts in each place among them."""
+    told = [list(thing)]
+    for at in range(len(thing)):
+        told += [thing[:at] + (part,) + thing[at + 1:] for part in parts]
+        told.append(thing[:at] + thing[at + 1:])
+        told.append(thing[:at + 1] + thing[at:])
+        told.append(thing[:at] + ([thing[at]],) + thing[at + 1:])
+        told.append(thing[:at] + ((thing[at],),) + thing[at + 1:])
+        if thing[at] in (0, 1):
+            told.append(thing[:at] + (bool(thing[at]),) + thing[at + 1:])
+        if at + 1 < len(thing):
+            told.append(thing[:at] + (thing[at + 1], thing[at]) + thing[at + 2:])
+    return told
+
+
+def is_number(thing, least, most):
+    """A whole number within bounds: of just this kind, so no truth."""
+    return type(thing) is int and thing in range(least, most + 1)
+
+
+def card_by_words(thing):
+    """By the words of [9]: whether this is a card."""
+    return type(thing) is tuple and len(thing) == 6 and all([
+        is_number(thing[0], 0, 11),
+        is_number(thing[1], 0, 11),
+        type(thing[2]) is str and thing[2] in ["bought", "sold"],
+        is_number(thing[3], 0, 1_000_000_000),
+        is_number(thing[4], 1, 1_000_000),
+        is_number(thing[5], 0, 1_000_000_000),
+    ]) and thing[0] != thing[1]
+
+
+def together_by_words(one, other):
+    """By the words of [10]: whether two cards belong together."""
+    return one[0] == other[1] and one[1] == other[0] and one[5] == other[5]
+
+
+def quarrel_by_words(one, other):
+    """By the words of [10]: in which parts two cards that belong together quarrel."""
+    return tuple(
+        word for word, quarrels in [
+            ("side", one[2] == other[2]), ("price", one[3] != other[3]), ("count", one[4] != other[4]),
+        ] if quarrels
+    )
+
+
+def drawn_card(chance, members=12, prices=3, counts=2, moments=3):
+    """A card; the fewer its parts can be, the more often two of them agree or nearly do."""
+    writer, other = chance.sample(range(members), 2)
+    side = chance.choice(["bought", "sold"])
+    return (
+        writer, other, side, 118 + chance.randrange(prices), 1 + chance.randrange(counts), chance.randrange(moments),
+    )
+
+
+def drawn_print(chance, moments=5, prices=4, counts=3):
+    """A print (moment, price, count)."""
+    return chance.randrange(moments), 118 + chance.randrange(prices), 1 + chance.randrange(counts)
+
+
+def shuffled(chance, things):
+    """A new list of the same things in another order."""
+    return chance.sample(things, len(things))

@@ -57,6 +57,20 @@ def bound_names(tree):
             yield node.name
 
 
+def imported_names(tree):
+    """What the file imports from the package: (module, name), and by which name it is used."""
+    for node in tree.body:
+        if isinstance(node, ast.ImportFrom) and node.module != "__future__":
+            for alias in node.names:
+                yield node.module, alias.name, alias.asname or alias.name
+
+
+def given_names(tree):
+    """What the file itself defines at module level."""
+    given = [node.targets[0].id for node in tree.body if isinstance(node, ast.Assign)]
+    return given + [node.name for node in tree.body if isinstance(node, (ast.FunctionDef, ast.ClassDef))]
+
+
 def package_trees():
     return [(name, ast.parse(read(name))) for name in package_files()]
 
@@ -98,9 +112,26 @@ class Language(unittest.TestCase):
                 if at == 0 and ast.get_docstring(tree) is not None:
                     continue
                 self.assertIsInstance(node, (ast.ImportFrom, ast.FunctionDef, ast.ClassDef, ast.Assign))
-            given = [node.targets[0].id for node in tree.body if isinstance(node, ast.Assign)]
-            given += [node.name for node in tree.body if isinstance(node, (ast.FunctionDef, ast.ClassDef))]
-            self.assertEqual(len(set(given)), len(given))
+            given = given_names(tree) + [used for module, word, used in imported_names(tree)]
+            self.assertEqual(len(set(given)), len(given), name)
+
+    def test_each_import_names_the_file_that_defines_it(self):
+        trees = dict(package_trees())
+        for name, tree in trees.items():
+            for module, word, used in imported_names(tree):
+                self.assertIn(word, given_names(trees[module.split(".")[1] + ".py"]), name)
+                self.assertNotIn(used, list(bound_names(tree)), name)
+
+    def test_no_two_files_import_from_each_other(self):
+        ahead = {
+            name: {module.split(".")[1] + ".py" for module, word, used in imported_names(tree)}
+            for name, tree in package_trees()
+        }
+        while ahead:
+            # A file can be set down once all that it imports from is; in a ring none ever can.
+            ready = [name for name in ahead if not ahead[name] & set(ahead)]
+            self.assertTrue(ready, sorted(ahead))
+            ahead = {name: ahead[name] for name in ahead if name not in ready}
 
     def test_statements_and_values(self):
         for name, tree in package_trees():

@@ -3,7 +3,7 @@
 import random
 import unittest
 
-from helps import SHOWINGS, SIGN_LOOKS, SIGNS, first_unlike, things_look_alike
+from helps import SHOWINGS, SIGN_LOOKS, SIGNS, first_unlike, put_otherwise, things_look_alike
 from palmhall.signs import alikes, is_showing, is_sign, look_alike, lots_of, mistakes, price_meant
 
 # repr tells True from 1, and a list from a tuple, where == does not.
@@ -25,22 +25,6 @@ SINGLE = PARTS + [
 ]
 
 
-def put_otherwise(thing):
-    """Every thing that comes of this one by one change."""
-    told = [list(thing)]
-    for at in range(len(thing)):
-        told += [thing[:at] + (part,) + thing[at + 1:] for part in PARTS]
-        told.append(thing[:at] + thing[at + 1:])
-        told.append(thing[:at + 1] + thing[at:])
-        told.append(thing[:at] + ([thing[at]],) + thing[at + 1:])
-        told.append(thing[:at] + ((thing[at],),) + thing[at + 1:])
-        if thing[at] in (0, 1):
-            told.append(thing[:at] + (bool(thing[at]),) + thing[at + 1:])
-        if at + 1 < len(thing):
-            told.append(thing[:at] + (thing[at + 1], thing[at]) + thing[at + 2:])
-    return told
-
-
 class WhatIsASign(unittest.TestCase):
     def check(self, thing):
         self.assertIs(is_sign(thing), repr(thing) in SIGNS_SHOWN, repr(thing)[:200])
@@ -57,7 +41,7 @@ class WhatIsASign(unittest.TestCase):
 
     def test_with_one_part_put_otherwise(self):
         for thing in SIGNS + SHOWINGS:
-            for other in put_otherwise(thing):
+            for other in put_otherwise(thing, PARTS):
                 self.check(other)
 
     def test_truths_are_no_numbers(self):
