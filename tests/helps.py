@@ -2,6 +2,8 @@
 
 import itertools
 
+from palmhall.errors import HallError, NoBargain
+
 LOOKS = [("in", "out"), ("chin", "brow"), (1, 6), (2, 7), (3, 8), (4, 9)]
 
 SHOWINGS = list(itertools.product(range(1, 10), ("chin", "brow")))
@@ -110,3 +112,63 @@ def drawn_print(chance, moments=5, prices=4, counts=3):
 def shuffled(chance, things):
     """A new list of the same things in another order."""
     return chance.sample(things, len(things))
+
+
+def drawn_deal(chance, members=12, prices=4, counts=5, moments=4):
+    """A deal (seller, buyer, price, count, moment)."""
+    seller, buyer = chance.sample(range(members), 2)
+    return seller, buyer, 118 + chance.randrange(prices), 1 + chance.randrange(counts), chance.randrange(moments)
+
+
+def way_by_words(one, other, called):
+    """By the words of [19]: the one way of two cards that belong together."""
+    if one[2] == other[2]:
+        return ("void",)
+    prices = {one[2]: one[3], other[2]: other[3]}
+    count = one[4] if one[4] < other[4] else other[4]
+    if prices["sold"] == prices["bought"]:
+        return ("done", prices["sold"], count)
+    if prices["sold"] < prices["bought"] and prices["sold"] <= called and called <= prices["bought"]:
+        return ("done", called, count)
+    return ("left",)
+
+
+# Numbers, texts, truths, None, lists and tuples, as [2] tells what "of anything" is.
+ANYTHING = [
+    0, 1, 2, 3, 5, 9, 10, 11, 12, -1, -2, 100, 1000, 1001, 10 ** 6, 10 ** 8, 10 ** 9, 10 ** 19, -10 ** 19,
+    "", " ", "0", "1", "in", "out", "chin", "brow", "bought", "sold", "waits", "done", "void", "left", "quarrel",
+    "held", "closed", "s7x3c", "3c", "ok", "none", "\n", "~", "x" * 2000, True, False, None,
+    [], (), [[]], [()], ((),), ([],), (None,), [None], [0], (0,), (0, 1), [0, 1], (1, "chin"), [1, "chin"],
+    (True, "chin"), ("in", 1, 1, "chin"), ["in", 1, 1, "chin"], ("in", True, 1, "chin"), ("in", 1, 10, "chin"),
+    ("in", 1, 0, "chin"), ("in", -1, 1, "chin"), ("in", 1, 1, "nose"), ("up", 1, 1, "chin"), ("in", 1, 1),
+    ("in", 1, 1, "chin", 0), ("void",), ("left",), ("done", 1, 1), list(range(400)), tuple(range(400)),
+]
+
+
+def deep_thing():
+    """A tuple in a tuple, and so on, deeper than calls can go."""
+    deep = ()
+    for _ in range(5000):
+        deep = (deep,)
+    return deep
+
+
+def refused(case, kind, call, *parts):
+    """Checks that the call is refused with just this kind."""
+    with case.assertRaises(HallError) as caught:
+        call(*parts)
+    case.assertIs(type(caught.exception), kind)
+
+
+def everything(hall):
+    """All that a hall tells."""
+    bargains = []
+    while True:
+        try:
+            bargains.append((hall.bargain(len(bargains)), hall.quarrel(len(bargains))))
+        except NoBargain:
+            break
+    return [
+        hall.now(), hall.called(), hall.is_open(), hall.offers(), bargains, hall.prints(), hall.deals(),
+        hall.stands_now(), hall.deliveries(), hall.book(),
+    ]

@@ -24,6 +24,19 @@ BARRED_WORDS = re.compile(
 BARRED_NODES = (
     ast.Global, ast.AsyncFunctionDef, ast.AsyncFor, ast.AsyncWith, ast.Await, ast.Div, ast.MatMult, ast.Import,
 )
+# L25, those that a package without bytes has use for; L26, what no attribute is called.
+BUILTIN_METHODS = set(
+    "append clear copy count endswith extend find get index insert isalnum isalpha isdigit islower isspace isupper "
+    "items join keys ljust lower lstrip partition pop remove replace reverse rfind rjust rpartition rsplit rstrip "
+    "setdefault split splitlines startswith strip update upper values zfill bit_length title capitalize swapcase "
+    "casefold center expandtabs removeprefix removesuffix rindex isascii isdecimal isnumeric istitle isidentifier "
+    "isprintable add discard sort".split()
+)
+BARRED_ATTRIBUTES = set(
+    "items keys values pop update append clear extend insert remove reverse setdefault sort args encode decode hex "
+    "fromhex format as_integer_ratio bit_count conjugate from_bytes is_integer to_bytes real imag numerator "
+    "denominator".split()
+)
 DOUBLE = re.compile(r"__[a-z]+__\Z")
 
 
@@ -52,6 +65,8 @@ def bound_names(tree):
             yield node.id
         elif isinstance(node, ast.arg):
             yield node.arg
+        elif isinstance(node, (ast.MatchAs, ast.MatchStar)) and node.name:
+            yield node.name
     for node in tree.body:
         if isinstance(node, (ast.FunctionDef, ast.ClassDef)):
             yield node.name
@@ -73,6 +88,22 @@ def given_names(tree):
 
 def package_trees():
     return [(name, ast.parse(read(name))) for name in package_files()]
+
+
+def methods_of(trees):
+    """The names of all methods, class by class."""
+    for name, tree in trees:
+        for node in ast.walk(tree):
+            if isinstance(node, ast.ClassDef):
+                yield [part.name for part in node.body if isinstance(part, ast.FunctionDef)]
+
+
+def attributes_of(trees, *contexts):
+    """The names of all attributes that are read, or assigned."""
+    return {
+        node.attr for name, tree in trees for node in ast.walk(tree)
+        if isinstance(node, ast.Attribute) and isinstance(node.ctx, contexts)
+    }
 
 
 class Language(unittest.TestCase):
@@ -132,6 +163,49 @@ class Language(unittest.TestCase):
             ready = [name for name in ahead if not ahead[name] & set(ahead)]
             self.assertTrue(ready, sorted(ahead))
             ahead = {name: ahead[name] for name in ahead if name not in ready}
+
+    def test_methods_and_attributes(self):
+        trees = package_trees()
+        for names in methods_of(trees):
+            self.assertEqual(len(set(names)), len(names))
+        methods = {name for names in methods_of(trees) for name in names}
+        assigned = attributes_of(trees, ast.Store, ast.Del)
+        self.assertFalse(assigned & methods)
+        self.assertFalse(assigned & BARRED_ATTRIBUTES)
+        self.assertLessEqual(attributes_of(trees, ast.Load), assigned | methods | BUILTIN_METHODS)
+
+    def test_handlers_name_own_errors(self):
+        errors = given_names(ast.parse(read("errors.py")))
+        for name, tree in package_trees():
+            for node in ast.walk(tree):
+                if isinstance(node, ast.ExceptHandler):
+                    self.assertIn(getattr(node.type, "id", None), errors, name)
+                if isinstance(node, ast.Raise) and node.exc is not None:
+                    self.assertIn(node.exc.func.id, errors, name)
+
+    def test_functions_stand_at_module_level_or_in_classes(self):
+        # The package has no use for nested functions, decorators, defaults and stars.
+        for name, tree in package_trees():
+            near = [node for part in tree.body for node in [part] + getattr(part, "body", [])]
+            for node in ast.walk(tree):
+                if isinstance(node, ast.FunctionDef):
+                    self.assertIn(node, near, f"{name}: {node.name}")
+                    self.assertFalse(node.decorator_list)
+                    told = node.args
+                    self.assertFalse(told.posonlyargs + told.kwonlyargs + told.defaults)
+                    self.assertIsNone(told.vararg or told.kwarg)
+
+    def test_tables_are_only_read(self):
+        for name, tree in package_trees():
+            tables = {
+                node.targets[0].id for node in tree.body
+                if isinstance(node, ast.Assign) and isinstance(node.value, (ast.List, ast.Dict))
+            }
+            for node in ast.walk(tree):
+                if isinstance(node, ast.Subscript) and not isinstance(node.ctx, ast.Load):
+                    self.assertNotIn(getattr(node.value, "id", None), tables, name)
+                if isinstance(node, (ast.Return, ast.Assign)):
+                    self.assertNotIn(getattr(node.value, "id", None), tables, name)
 
     def test_statements_and_values(self):
         for name, tree in package_trees():
