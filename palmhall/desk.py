@@ -5,7 +5,7 @@ from palmhall.errors import NoRow, NoText
 from palmhall.halls import Hall
 from palmhall.texts import card_text, read_number, read_showing, read_sign, sign_text
 
-MOST_FIGURES = 9
+ROW_FIGURES = 9
 PALM_WORDS = {"buy": "in", "sell": "out"}
 
 
@@ -101,7 +101,7 @@ def board_text(told):
 
 def read_short(text):
     """A number that is written by at most nine figures."""
-    return read_number(text, MOST_FIGURES)
+    return read_number(text, ROW_FIGURES)
 
 
 def read_palm(text):

@@ -49,6 +49,7 @@ class Hall:
         # Bargains: (member of the offer, taker, sign, look, shown, seen, card, card, price called then).
         self.struck = []
         self.words = []
+        # By bargains, who has handed in; by bargains and members, the last consent.
         self.handed = {}
         self.consents = {}
         self.done = []
@@ -292,9 +293,8 @@ class Hall:
 
     def strike(self, bargain, price, count):
         """The bargain is done: a deal, of the bargain's moment, whoever handed in or consented when."""
-        writer, other, side = self.struck[bargain][6][:3]
-        seller, buyer = (writer, other) if side == "sold" else (other, writer)
-        moment = self.struck[bargain][6][5]
-        self.done.append((seller, buyer, price, count, moment))
+        card = self.struck[bargain][6]
+        seller, buyer = (card[0], card[1]) if card[2] == "sold" else (card[1], card[0])
+        self.done.append((seller, buyer, price, count, card[5]))
         self.words[bargain] = "done"
         return "done"

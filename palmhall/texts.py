@@ -6,7 +6,7 @@ from palmhall.signs import is_showing, is_sign
 
 FIGURES = "0123456789"
 # The greatest number of a card, 10 ** 9, has ten figures.
-MOST_FIGURES = 10
+CARD_FIGURES = 10
 
 PALM_LETTERS = {"in": "b", "out": "s"}
 PLACE_LETTERS = {"chin": "c", "brow": "w"}
@@ -56,7 +56,7 @@ def read_card(text):
     words = text.split(" ") if isinstance(text, str) else []
     if len(words) != 9:
         raise NoText("no card is so written")
-    writer, count, price, other, moment = [read_number(word, MOST_FIGURES) for word in words[::2]]
+    writer, count, price, other, moment = [read_number(word, CARD_FIGURES) for word in words[::2]]
     card = (writer, other, words[1], price, count, moment)
     # The words between the numbers are right where the card would be written by these.
     if not is_card(card) or card_text(card) != text:
